@@ -1,0 +1,1 @@
+"""Endtellers: by which means the end of an endless row is told."""

@@ -1,0 +1,36 @@
+"""Fractions: pairs (n, m) of whole numbers without a common divisor above 1, m above 0."""
+
+from math import gcd
+
+from endtellers.errors import InvalidFraction
+
+
+def is_whole(value):
+    """Whether a value, whatever it is, is a whole number; True and False are none."""
+    return type(value) is int
+
+
+def is_fraction(value):
+    """Whether a value, whatever it is, is a fraction."""
+    if type(value) is not tuple or len(value) != 2:
+        return False
+    top, under = value
+    return is_whole(top) and is_whole(under) and under > 0 and gcd(top, under) == 1
+
+
+def check_fraction(value):
+    """Refuse what is no fraction."""
+    if not is_fraction(value):
+        raise InvalidFraction(value)
+
+
+def check_fraction_above_nought(value):
+    """Refuse what is no fraction above 0."""
+    if not is_fraction(value) or value[0] <= 0:
+        raise InvalidFraction(value)
+
+
+def lowest(top, under):
+    """The fraction top / under, under above 0."""
+    shared = gcd(top, under)
+    return top // shared, under // shared

@@ -1,0 +1,87 @@
+"""Polynomials that are made of known zeros, and values that are wrong, for the tests."""
+
+from fractions import Fraction
+
+
+def pair(number):
+    """The pair of a number."""
+    number = Fraction(number)
+    return (number.numerator, number.denominator)
+
+
+def polynomial(*numbers):
+    """The tuple of pairs of numbers, the lowest power first."""
+    return tuple(pair(number) for number in numbers)
+
+
+def numbers_of(value):
+    """The numbers of a polynomial."""
+    return [Fraction(top, under) for top, under in value]
+
+
+def multiplied(*factors):
+    """The numbers of a product, each factor a list of numbers."""
+    out = [Fraction(1)]
+    for factor in factors:
+        longer = [Fraction(0)] * (len(out) + len(factor) - 1)
+        for at, number in enumerate(out):
+            for further, other in enumerate(factor):
+                longer[at + further] += number * other
+        out = longer
+    return out
+
+
+def made_of(*factors):
+    """The polynomial that is the product of the factors, each a list of numbers."""
+    return polynomial(*multiplied(*factors))
+
+
+def nested(depth):
+    """A tuple nested so deep."""
+    value = ()
+    for _ in range(depth - 1):
+        value = (value,)
+    return value
+
+
+class Odd:
+    """A value that may be asked for nothing."""
+
+    def __eq__(self, other):
+        raise AssertionError("compared")
+
+    __hash__ = None
+
+    def __bool__(self):
+        raise AssertionError("tested")
+
+    def __len__(self):
+        raise AssertionError("measured")
+
+
+ONE = (1, 1)
+
+# Nobody takes these for a number, a fraction, a polynomial, or anything else.
+NOTHING = [
+    None, "", "1", "one", b"", b"1/2", {}, {1: 2}, {(1, 1): (1, 1)}, set(), {1}, frozenset(), [], [1, 1], [(1, 1)],
+    object(), Odd(), Ellipsis, NotImplemented, int, len, ValueError("x"), nested(14), [nested(13)], range(2), 1j,
+    iter(()), (None,), ("1", "2"), ("ab",), (Odd(), Odd()), (Odd(),), ((Odd(), 1),), ((1, Odd()),), ((1, 1), Odd()),
+]
+
+WRONG_FRACTIONS = NOTHING + [
+    (), 0, 1, -1, True, False, (1,), (1, 1, 1), (1, 0), (0, 0), (1, -1), (-1, -2), (0, 2), (0, -1), (2, 2), (2, 4),
+    (-2, 4), (3, -1), (True, 1), (1, True), (False, 1), (True, True), ((1, 1), 1), (1, (1, 1)), ((1, 1),),
+    ((1, 1), (1, 1)), ("1", 1), (1, None), [1, 2], {1, 2}, "12", (10 ** 399, 10 ** 398), (1 << 70, 2), (6, 9),
+]
+
+NOT_ABOVE_NOUGHT = [(0, 1), (-1, 1), (-1, 2), (-(10 ** 399), 1), (-1, 10 ** 399)]
+
+WRONG_POLYNOMIALS = NOTHING + [
+    (), 0, 1, True, (1, 1), (1,), ((0, 1),), (ONE, (0, 1)), (ONE, ONE, (0, 1)), ((0, 1), (0, 1)), (ONE, (2, 2)),
+    ((2, 4), ONE), (ONE, (1, 0)), (ONE, (1, -1)), (ONE, (-1, -1)), ((1, 0),), ((0, 2), ONE), (ONE, 1), (1, ONE),
+    (ONE, True), (ONE, (True, 1)), ((1, True), ONE), (ONE, (False, 1), ONE), [ONE], (ONE, [1, 1]), [[1, 1]],
+    ([1, 1],), ((ONE,),), (ONE, (ONE,)), ((ONE, ONE),), (ONE, ()), ((1, 1, 1),), ((1,),), (ONE, None), (ONE, "1"),
+    ("11",), ({1: 1},), ({1, 2},), {ONE: ONE}, ("ab", "cd"), ((1, "1"),),
+]
+
+WRONG_MANY = NOTHING + [(), 0, -1, -1000, 1001, 1002, 10 ** 399, True, False, (1, 1), (5,), "5", [5], {5: 5}]
