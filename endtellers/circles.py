@@ -5,7 +5,7 @@ those on it are this line, but for - 1, for which there is no w; 1 is the w 0.
 """
 
 from endtellers.chains import jumps, real_zeros, sign_chain
-from endtellers.wholes import trimmed
+from endtellers.wholes import trimmed, undelayed
 
 # The powers of i, by turns of real ones and of multiples of i.
 TURNS = (1, 1, -1, -1)
@@ -58,7 +58,4 @@ def most_on_circle(numbers):
     """How often that zero on the circle, other than 1, comes that comes most often; 0 if there is none."""
     line = trimmed(across(numbers))
     common = line_chain(line)[-1]
-    first = 0
-    while common[first] == 0:
-        first += 1
-    return max(len(numbers) - len(line), len(real_zeros(common[first:])))
+    return max(len(numbers) - len(line), len(real_zeros(undelayed(common))))

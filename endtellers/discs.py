@@ -3,18 +3,11 @@
 from math import comb
 
 from endtellers.circles import circle_counts, most_on_circle
-from endtellers.errors import InvalidNumber
 from endtellers.polynomials import check_polynomial, cleared
-from endtellers.ratios import check_fraction_above_nought, is_whole
+from endtellers.ratios import check_fraction_above_nought, check_whole
 from endtellers.wholes import primitive, spread
 
 MOST_MANY = 1000
-
-
-def check_many(value):
-    """Refuse what is no whole number from 1 to 1000."""
-    if not is_whole(value) or not 1 <= value <= MOST_MANY:
-        raise InvalidNumber(value)
 
 
 def shrunk(numbers, top, under):
@@ -51,7 +44,7 @@ def number_above_least(numbers, many):
 def least_size(polynomial, many):
     """The pair (k, IS_JUST): the least size of a zero, near for the number many; None for a degree of 0."""
     check_polynomial(polynomial)
-    check_many(many)
+    check_whole(many, 1, MOST_MANY)
     numbers = cleared(polynomial)[0]
     if len(numbers) == 1:
         return None

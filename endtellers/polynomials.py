@@ -28,6 +28,11 @@ def cleared(polynomial):
     return [top * (shared // under) for top, under in polynomial], shared
 
 
+def divided(numbers, under):
+    """The tuple of whole numbers, each divided by one whole number other than 0."""
+    return tuple([lowest(number, under) for number in numbers])
+
+
 def value_at(polynomial, fraction):
     """What the polynomial is at a fraction."""
     check_polynomial(polynomial)
@@ -45,8 +50,7 @@ def product(polynomial, other):
     check_polynomial(other)
     numbers, shared = cleared(polynomial)
     others, shared_by_others = cleared(other)
-    under = shared * shared_by_others
-    return tuple([lowest(number, under) for number in times(numbers, others)])
+    return divided(times(numbers, others), shared * shared_by_others)
 
 
 def common_part(polynomial, other):
@@ -54,4 +58,4 @@ def common_part(polynomial, other):
     check_polynomial(polynomial)
     check_polynomial(other)
     found = common_divisor(cleared(polynomial)[0], cleared(other)[0])
-    return tuple([lowest(number, found[-1]) for number in found])
+    return divided(found, found[-1])

@@ -2,12 +2,18 @@
 
 from math import gcd
 
-from endtellers.errors import InvalidFraction
+from endtellers.errors import InvalidFraction, InvalidNumber
 
 
 def is_whole(value):
     """Whether a value, whatever it is, is a whole number; True and False are none."""
     return type(value) is int
+
+
+def check_whole(value, least, most):
+    """Refuse what is no whole number from the least to the most."""
+    if not is_whole(value) or not least <= value <= most:
+        raise InvalidNumber(value)
 
 
 def is_fraction(value):
@@ -30,7 +36,15 @@ def check_fraction_above_nought(value):
         raise InvalidFraction(value)
 
 
+def check_share(value):
+    """Refuse what is no fraction above 0 and below 1."""
+    if not is_fraction(value) or not 0 < value[0] < value[1]:
+        raise InvalidFraction(value)
+
+
 def lowest(top, under):
-    """The fraction top / under, under above 0."""
+    """The fraction top / under, under not 0."""
     shared = gcd(top, under)
+    if under < 0:
+        shared = -shared
     return top // shared, under // shared

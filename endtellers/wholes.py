@@ -11,6 +11,14 @@ def trimmed(numbers):
     return numbers[:many]
 
 
+def undelayed(numbers):
+    """The numbers without the noughts ahead of them: all powers of the unknown are taken out."""
+    first = 0
+    while numbers[first] == 0:
+        first += 1
+    return numbers[first:]
+
+
 def primitive(numbers):
     """The numbers divided by their greatest common divisor."""
     shared = 0
@@ -19,6 +27,18 @@ def primitive(numbers):
         if shared == 1:
             return list(numbers)
     return [number // shared for number in numbers]
+
+
+def plus(first, second):
+    """The sum of two polynomials."""
+    many = max(len(first), len(second))
+    longer, other = first + [0] * (many - len(first)), second + [0] * (many - len(second))
+    return trimmed([number + more for number, more in zip(longer, other)])
+
+
+def multiple(numbers, factor):
+    """The numbers, each times the factor."""
+    return [factor * number for number in numbers]
 
 
 def times(first, second):
@@ -72,19 +92,21 @@ def rest(numbers, part):
         # Signs are read off the rest, so it may be scaled by a number above 0 alone.
         if scale < 0:
             scale, factor = -scale, -factor
-        left = less_multiple([scale * number for number in left], factor, part)
+        left = less_multiple(multiple(left, scale), factor, part)
     return left
 
 
-def is_divisor(part, numbers):
-    """Whether the numbers are the part times a polynomial of whole numbers."""
+def quotient(numbers, part):
+    """The polynomial of whole numbers that gives the numbers, times the part; None if there is none."""
     left, last = list(numbers), part[-1]
+    out = [0] * (len(numbers) - len(part) + 1)
     while len(left) >= len(part):
         factor, over = divmod(left[-1], last)
         if over != 0:
-            return False
+            return None
+        out[len(left) - len(part)] = factor
         left = less_multiple(left, factor, part)
-    return not left
+    return None if left else out
 
 
 def worth_at(numbers, place):
@@ -120,6 +142,11 @@ def common_divisor(first, second):
     place = 4096 * (least + 1)
     while True:
         found = primitive(read_back(gcd(worth_at(first, place), worth_at(second, place)), place))
-        if is_divisor(found, first) and is_divisor(found, second):
+        if quotient(first, found) is not None and quotient(second, found) is not None:
             return found
         place *= place
+
+
+def common_multiple(first, second):
+    """The polynomial of the least degree that both divide, the two being other than nought."""
+    return quotient(times(first, second), common_divisor(first, second))

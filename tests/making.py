@@ -84,4 +84,25 @@ WRONG_POLYNOMIALS = NOTHING + [
     ("11",), ({1: 1},), ({1, 2},), {ONE: ONE}, ("ab", "cd"), ((1, "1"),),
 ]
 
+WRONG_TELLERS = NOTHING + [
+    (), 0, 1, True, ONE, (ONE, ONE), ((ONE,),), ((ONE,), (ONE,), (ONE,)), [(ONE,), (ONE,)], ([ONE], (ONE,)),
+    ((ONE,), [ONE]), ((), (ONE,)), ((ONE,), ()), ((), ()), ((ONE,), ((0, 1),)), (((0, 1),), (ONE,)),
+    ((ONE,), ((0, 1), ONE)), ((ONE, ONE), ((0, 1), (0, 1), ONE)), (((0, 1), ONE), ((0, 1), ONE)),
+    ((ONE, (0, 1)), (ONE,)), ((ONE,), (ONE, (0, 1))), ((ONE, (2, 2)), (ONE,)), ((ONE,), ((2, 2),)),
+    ((ONE,), ((True, 1),)), ((ONE,), 1), (1, (ONE,)), ((ONE,), None), (None, (ONE,)), ((ONE,), Odd()),
+    (Odd(), (ONE,)), ((ONE,), (ONE, Odd())), "ab", {(ONE,): (ONE,)}, (((ONE,), (ONE,)), (ONE,)), ((1, 1), (1, 2)),
+]
+
+# Beside each of them the index of the first element that is wrong.
+WRONG_NUMBERS = [(value, None) for value in NOTHING if not isinstance(value, tuple)] + [
+    ((value, ONE), 0) for value in WRONG_FRACTIONS
+] + [
+    ((ONE, (1, 2), value), 2) for value in WRONG_FRACTIONS
+] + [
+    (nested(14), 0), (0, None), (True, None), ([ONE], None), ("11", None), ({ONE: ONE}, None), (iter([ONE]), None),
+    ((1, 1), 0), ((1,), 0), ((ONE, ONE, (2, 2)), 2), ((ONE, 1, None), 1), ((ONE, [1, 1]), 1), ((ONE, (True, 1)), 1),
+    ((ONE, (1, 0), ONE), 1), (((1, -1), ONE), 0), ((ONE, ONE, ONE, ()), 3), ((ONE, Odd(), Odd()), 1),
+    ((ONE, None, 1), 1), (((ONE, ONE),), 0), (tuple([ONE] * 59 + [True]), 59), ((None, ONE), 0),
+]
+
 WRONG_MANY = NOTHING + [(), 0, -1, -1000, 1001, 1002, 10 ** 399, True, False, (1, 1), (5,), "5", [5], {5: 5}]

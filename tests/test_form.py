@@ -5,7 +5,7 @@ import inspect
 import pathlib
 import unittest
 
-from endtellers import discs, polynomials
+from endtellers import discs, keeping, polynomials, serving, tellers
 
 PACKAGE = pathlib.Path(__file__).resolve().parent.parent / "endtellers"
 FILES = sorted(path for path in PACKAGE.rglob("*") if "__pycache__" not in path.parts)
@@ -58,6 +58,14 @@ class Form(unittest.TestCase):
                           ("product", ["polynomial", "other"]), ("common_part", ["polynomial", "other"])],
             discs: [("disc_counts", ["polynomial", "fraction"]), ("least_size", ["polynomial", "many"]),
                     ("often_on", ["polynomial", "fraction"])],
+            tellers: [("is_teller", ["value"]), ("plain", ["teller"]), ("are_alike", ["teller", "other"]),
+                      ("is_fair", ["teller"]), ("behind", ["teller", "other"]),
+                      ("mixed", ["teller", "other", "fraction"]), ("told", ["teller", "numbers"]),
+                      ("weights_of", ["teller", "number"])],
+            keeping: [("keeps_settling", ["teller"]), ("keeps_ends", ["teller"]),
+                      ("keeps_share", ["teller", "fraction"]), ("straying", ["teller"])],
+            serving: [(name, ["teller", "other"])
+                      for name in ("serves_all", "serve_alike", "stray", "both", "either")],
         }
         for module, functions in listed.items():
             for name, parameters in functions:

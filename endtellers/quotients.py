@@ -1,0 +1,33 @@
+"""Quotients of two polynomials of whole numbers, the lower one not 0 at 0: what tellers and their weights are."""
+
+from endtellers.polynomials import cleared, divided
+from endtellers.wholes import common_divisor, multiple, powers, quotient
+
+
+def whole_pair(pair):
+    """Two polynomials of whole numbers with the quotient that the two of the pair have."""
+    tops, shared = cleared(pair[0])
+    unders, shared_by_unders = cleared(pair[1])
+    return multiple(tops, shared_by_unders), multiple(unders, shared)
+
+
+def plain_pair(tops, unders):
+    """The plain form of a quotient: a pair without a common part, its lower polynomial 1 at 0."""
+    part = common_divisor(tops, unders)
+    tops, unders = quotient(tops, part), quotient(unders, part)
+    return divided(tops, unders[0]), divided(unders, unders[0])
+
+
+def reach(factors, numbers, at):
+    """The sum of the factors, each times the number that stands so many places ahead of the one at the place."""
+    return sum([factor * numbers[at - back] for back, factor in enumerate(factors[:at + 1])])
+
+
+def scaled_series(tops, unders, numbers):
+    """What a quotient tells of whole numbers, the one at n times unders[0] to the power n + 1: so they stay whole."""
+    ups = powers(unders[0], len(numbers))
+    lags = [number * up for number, up in zip(unders[1:], ups)]
+    out = []
+    for at, up in enumerate(ups):
+        out.append(up * reach(tops, numbers, at) - reach(lags, out, at - 1))
+    return out

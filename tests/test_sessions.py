@@ -1,0 +1,83 @@
+"""The sessions that the interface shows: they are one, in order, and names stay told."""
+
+import unittest
+
+from endtellers import errors
+
+SESSIONS = [
+    ('polynomials', r'''
+>>> from endtellers.polynomials import common_part, is_polynomial, product, value_at
+>>> nil, half, one, two, less = (0, 1), (1, 2), (1, 1), (2, 1), (-1, 1)
+>>> [is_polynomial((one, two)), is_polynomial(()), is_polynomial((one, nil)), value_at((one, two), half), product((one, one), (one, less)), common_part((less, nil, one), (one, one)), common_part((one,), (nil, two))]
+[True, False, False, (2, 1), ((1, 1), (0, 1), (-1, 1)), ((1, 1), (1, 1)), ((1, 1),)]
+'''),
+    ('discs', r'''
+>>> from endtellers.discs import disc_counts, least_size, often_on
+>>> [disc_counts((one, nil, one), one), disc_counts((two, (-5, 1), two), one), disc_counts((nil, nil, one, one), one), disc_counts((one,), half), disc_counts((one, nil, one), two)]
+[(0, 2, 0), (1, 0, 1), (2, 1, 0), (0, 0, 0), (2, 0, 0)]
+>>> [least_size((two, one), 10), least_size((one, nil, one), 3), least_size((two, nil, one), 10), least_size((nil, one), 5), often_on((one, two, one), one), often_on((one, (-2, 1), one), one), often_on((one, nil, two, nil, one), one)]
+[(20, True), (3, True), (14, False), (0, True), 2, 0, 2]
+'''),
+    ('tellers', r'''
+>>> from endtellers.tellers import are_alike, behind, is_fair, is_teller, mixed, plain, told, weights_of
+>>> means, fade, lag = ((half, half), (one,)), ((half,), (one, (-1, 2))), ((nil, one), (one,))
+>>> [is_teller(means), is_teller(((one,), (nil, one))), is_teller(((), (one,))), plain(((one, one), (two, two))), are_alike(means, ((one, one), (two,))), is_fair(means), is_fair(((one,), (one, less)))]
+[True, False, False, (((1, 2),), ((1, 1),)), True, True, False]
+>>> [behind(means, fade), mixed(means, lag, half), mixed(lag, lag, two), told(fade, (one, one, nil)), told(lag, (one, two)), weights_of(fade, 3)]
+[(((1, 4), (1, 4)), ((1, 1), (-1, 2))), (((1, 4), (3, 4)), ((1, 1),)), (((0, 1), (1, 1)), ((1, 1),)), ((1, 2), (3, 4), (3, 8)), ((0, 1), (1, 1)), ((1, 2), (1, 4), (1, 8))]
+'''),
+    ('keeping', r'''
+>>> from endtellers.keeping import keeps_ends, keeps_settling, keeps_share, straying
+>>> sums, double = ((one,), (one, less)), ((two,), (one,))
+>>> [keeps_settling(fade), keeps_settling(sums), keeps_settling(double), keeps_ends(fade), keeps_ends(double), straying(sums), straying(double), straying(fade)]
+[True, False, True, True, False, 'pulse', 'ones', None]
+>>> [keeps_share(fade, (2, 3)), keeps_share(fade, half), keeps_share(means, half)]
+[True, False, True]
+'''),
+    ('serving', r'''
+>>> from endtellers.serving import both, either, serve_alike, serves_all, stray
+>>> threes = (((1, 3), (1, 3), (1, 3)), (one,))
+>>> [serves_all(means, lag), serves_all(lag, means), serves_all(threes, means), serves_all(behind(means, threes), means), serve_alike(fade, lag), serve_alike(means, behind(means, fade))]
+[True, False, False, True, True, True]
+>>> [stray(means, lag), stray(lag, means) is None, both(means, threes), either(means, threes), both(means, means)]
+[None, False, (((1, 1),), ((1, 1),)), (((1, 6), (1, 3), (1, 3), (1, 6)), ((1, 1),)), (((1, 2), (1, 2)), ((1, 1),))]
+>>> both(means, sums)
+raises NotFair()
+'''),
+]
+
+
+def steps_of(session):
+    """Each line that is typed, and what is shown for it."""
+    steps = []
+    for line in session.strip().splitlines():
+        if line.startswith(">>> "):
+            steps.append([line[4:], ""])
+        else:
+            steps[-1][1] += line
+    return steps
+
+
+class Sessions(unittest.TestCase):
+    def test_in_order(self):
+        names = {}
+        for module, session in SESSIONS:
+            for typed, shown in steps_of(session):
+                with self.subTest(module=module, typed=typed):
+                    self.run_step(names, typed, shown)
+
+    def run_step(self, names, typed, shown):
+        """What is typed shows what the session tells; an error is shown by its class and what it keeps."""
+        if shown.startswith("raises "):
+            expected = eval(shown[len("raises "):], vars(errors))
+            with self.assertRaises(type(expected)) as caught:
+                eval(typed, names)
+            self.assertEqual(vars(caught.exception), vars(expected))
+        elif shown:
+            self.assertEqual(repr(eval(typed, names)), shown)
+        else:
+            exec(typed, names)
+
+
+if __name__ == "__main__":
+    unittest.main()
