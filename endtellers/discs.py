@@ -23,6 +23,12 @@ def disc_counts(polynomial, fraction):
     return circle_counts(shrunk(cleared(polynomial)[0], top, under))
 
 
+def is_free(polynomial, fraction):
+    """Whether no zero has a size up to the fraction."""
+    below, just, _ = disc_counts(polynomial, fraction)
+    return below + just == 0
+
+
 def number_above_least(numbers, many):
     """A whole number above many times the least size of a zero, and not much above it.
 

@@ -1,20 +1,13 @@
 """Which tellers lead all settling rows to rows that settle, at the same ends, or by the same share."""
 
-from endtellers.discs import disc_counts
-from endtellers.ratios import check_share
+from endtellers.discs import is_free
+from endtellers.ratios import ONE, check_share
 from endtellers.tellers import check_teller, is_fair, plain
-
-
-def is_free(teller, fraction):
-    """Whether no zero of the plain form's UNDER has a size up to the fraction."""
-    _, under = plain(teller)
-    below, just, _ = disc_counts(under, fraction)
-    return below + just == 0
 
 
 def keeps_settling(teller):
     """Whether of all rows that settle the told row does, too."""
-    return is_free(teller, (1, 1))
+    return is_free(plain(teller)[1], ONE)
 
 
 def keeps_ends(teller):
@@ -27,7 +20,7 @@ def keeps_share(teller, fraction):
     check_teller(teller)
     check_share(fraction)
     share, whole = fraction
-    return is_free(teller, (whole, share))
+    return is_free(plain(teller)[1], (whole, share))
 
 
 def straying(teller):

@@ -1,6 +1,7 @@
-"""Quotients of two polynomials of whole numbers, the lower one not 0 at 0: what tellers and their weights are."""
+"""Quotients of two polynomials of whole numbers, the lower one not 0 at 0: what tellers and rows are."""
 
 from endtellers.polynomials import cleared, divided
+from endtellers.ratios import NIL, ONE, lowest
 from endtellers.wholes import common_divisor, multiple, powers, quotient
 
 
@@ -31,3 +32,21 @@ def scaled_series(tops, unders, numbers):
     for at, up in enumerate(ups):
         out.append(up * reach(tops, numbers, at) - reach(lags, out, at - 1))
     return out
+
+
+def told_numbers(pair, numbers):
+    """What the quotient of a pair, nought over a polynomial too, tells of a row that begins with the numbers."""
+    tops, shared = cleared(pair[0])
+    unders, factor = cleared(pair[1])
+    given, shared_by_given = cleared(numbers)
+    shared *= shared_by_given
+    out = []
+    for number in scaled_series(tops, unders, given):
+        shared *= unders[0]
+        out.append(lowest(number * factor, shared))
+    return tuple(out)
+
+
+def first_numbers(pair, number):
+    """So many first numbers of the quotient's series: what it tells of the pulse."""
+    return told_numbers(pair, tuple([ONE if at == 0 else NIL for at in range(number)]))

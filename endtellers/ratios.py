@@ -4,6 +4,9 @@ from math import gcd
 
 from endtellers.errors import InvalidFraction, InvalidNumber
 
+NIL = (0, 1)
+ONE = (1, 1)
+
 
 def is_whole(value):
     """Whether a value, whatever it is, is a whole number; True and False are none."""
@@ -36,10 +39,24 @@ def check_fraction_above_nought(value):
         raise InvalidFraction(value)
 
 
+def check_fraction_from_nought(value):
+    """Refuse what is no fraction from 0 on."""
+    if not is_fraction(value) or value[0] < 0:
+        raise InvalidFraction(value)
+
+
 def check_share(value):
     """Refuse what is no fraction above 0 and below 1."""
     if not is_fraction(value) or not 0 < value[0] < value[1]:
         raise InvalidFraction(value)
+
+
+def wrong_index(values, most):
+    """The index of the first value that is no fraction, or has so many before it; None if there is none."""
+    for index, value in enumerate(values):
+        if index == most or not is_fraction(value):
+            return index
+    return None
 
 
 def lowest(top, under):

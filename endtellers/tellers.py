@@ -1,14 +1,12 @@
 """Tellers: pairs of polynomials that tell means, or other sums of multiples, of the last numbers of endless rows."""
 
 from endtellers.errors import InvalidNumbers, InvalidTeller
-from endtellers.polynomials import cleared, is_polynomial, value_at
-from endtellers.quotients import plain_pair, scaled_series, whole_pair
-from endtellers.ratios import check_fraction, check_whole, is_fraction, lowest
+from endtellers.polynomials import is_polynomial, value_at
+from endtellers.quotients import first_numbers, plain_pair, told_numbers, whole_pair
+from endtellers.ratios import NIL, ONE, check_fraction, check_whole, wrong_index
 from endtellers.wholes import multiple, plus, times
 
 MOST_WEIGHTS = 40
-NIL = (0, 1)
-ONE = (1, 1)
 
 
 def is_teller(value):
@@ -29,9 +27,9 @@ def check_numbers(value):
     """Refuse what is no tuple of fractions."""
     if type(value) is not tuple:
         raise InvalidNumbers(None)
-    for index, number in enumerate(value):
-        if not is_fraction(number):
-            raise InvalidNumbers(index)
+    index = wrong_index(value, None)
+    if index is not None:
+        raise InvalidNumbers(index)
 
 
 def plain(teller):
@@ -81,19 +79,11 @@ def told(teller, numbers):
     """What the teller tells of a row that begins with the numbers: as many."""
     check_teller(teller)
     check_numbers(numbers)
-    tops, shared = cleared(teller[0])
-    unders, factor = cleared(teller[1])
-    given, shared_by_given = cleared(numbers)
-    shared *= shared_by_given
-    out = []
-    for number in scaled_series(tops, unders, given):
-        shared *= unders[0]
-        out.append(lowest(number * factor, shared))
-    return tuple(out)
+    return told_numbers(teller, numbers)
 
 
 def weights_of(teller, number):
     """What the teller tells of the pulse 1, 0, 0, ..: the first so many weights."""
     check_teller(teller)
     check_whole(number, 0, MOST_WEIGHTS)
-    return told(teller, tuple([ONE if at == 0 else NIL for at in range(number)]))
+    return first_numbers(teller, number)

@@ -150,3 +150,13 @@ def common_divisor(first, second):
 def common_multiple(first, second):
     """The polynomial of the least degree that both divide, the two being other than nought."""
     return quotient(times(first, second), common_divisor(first, second))
+
+
+def often_divided(numbers, part):
+    """How often one behind the other the numbers can be divided by a part without a common divisor."""
+    often = 0
+    left = quotient(numbers, part)
+    while left is not None:
+        often += 1
+        left = quotient(left, part)
+    return often

@@ -84,14 +84,19 @@ WRONG_POLYNOMIALS = NOTHING + [
     ("11",), ({1: 1},), ({1, 2},), {ONE: ONE}, ("ab", "cd"), ((1, "1"),),
 ]
 
-WRONG_TELLERS = NOTHING + [
+# Neither tellers nor rows.
+WRONG_ROWS = NOTHING + [
     (), 0, 1, True, ONE, (ONE, ONE), ((ONE,),), ((ONE,), (ONE,), (ONE,)), [(ONE,), (ONE,)], ([ONE], (ONE,)),
-    ((ONE,), [ONE]), ((), (ONE,)), ((ONE,), ()), ((), ()), ((ONE,), ((0, 1),)), (((0, 1),), (ONE,)),
+    ((ONE,), [ONE]), ((ONE,), ()), ((), ()), ((ONE,), ((0, 1),)), (((0, 1),), (ONE,)),
     ((ONE,), ((0, 1), ONE)), ((ONE, ONE), ((0, 1), (0, 1), ONE)), (((0, 1), ONE), ((0, 1), ONE)),
     ((ONE, (0, 1)), (ONE,)), ((ONE,), (ONE, (0, 1))), ((ONE, (2, 2)), (ONE,)), ((ONE,), ((2, 2),)),
     ((ONE,), ((True, 1),)), ((ONE,), 1), (1, (ONE,)), ((ONE,), None), (None, (ONE,)), ((ONE,), Odd()),
     (Odd(), (ONE,)), ((ONE,), (ONE, Odd())), "ab", {(ONE,): (ONE,)}, (((ONE,), (ONE,)), (ONE,)), ((1, 1), (1, 2)),
+    ((), ((0, 1),)), ((), ((0, 1), ONE)), ([], (ONE,)), ((), [ONE]), ((), (ONE, (0, 1))), ("", (ONE,)), ((), "1"),
+    ((), (ONE,), ()), ((),), ((), Odd()), (None, (ONE,)), (False, (ONE,)), (((),), (ONE,)),
 ]
+
+WRONG_TELLERS = WRONG_ROWS + [((), (ONE,)), ((), (ONE, ONE)), ((), ((2, 1), (-1, 3)))]
 
 # Beside each of them the index of the first element that is wrong.
 WRONG_NUMBERS = [(value, None) for value in NOTHING if not isinstance(value, tuple)] + [
@@ -106,3 +111,27 @@ WRONG_NUMBERS = [(value, None) for value in NOTHING if not isinstance(value, tup
 ]
 
 WRONG_MANY = NOTHING + [(), 0, -1, -1000, 1001, 1002, 10 ** 399, True, False, (1, 1), (5,), "5", [5], {5: 5}]
+
+# Wrong for all that takes fractions from some to some.
+BELOW_NOUGHT = [(-1, 1), (-1, 2), (-(10 ** 399), 1), (-1, 10 ** 399)]
+NOT_BELOW_ONE = [(1, 1), (2, 1), (10 ** 399 + 1, 10 ** 399), (3, 2)]
+WRONG_SHARES = WRONG_FRACTIONS + NOT_ABOVE_NOUGHT + NOT_BELOW_ONE
+WRONG_FROM_NOUGHT = WRONG_FRACTIONS + BELOW_NOUGHT
+
+
+def wrong_wholes(low, high):
+    """Values that are no whole numbers from the one to the other."""
+    return NOTHING + [
+        (), low - 1, low - 2, high + 1, high + 2, -(10 ** 399), 10 ** 399, True, False, (1, 1), (low,), (low, 1),
+        str(low), [low], {low: low},
+    ]
+
+
+def wrong_tuples(most):
+    """Values that are no tuples of one to so many fractions, each with the index of the first wrong one, or None."""
+    wrong = [(value, index) for value, index in WRONG_NUMBERS if index is None or index < most]
+    return wrong + [((), None), ((ONE,) * (most + 1), most), ((ONE,) * most + (None,), most),
+                    ((ONE,) * (most - 1) + (Odd(), ONE, ONE), most - 1), (((1, 2),) * 60, most)]
+
+
+GREAT_FRACTIONS = [(10 ** 399, 1), (1, 10 ** 399), (10 ** 399 + 1, 10 ** 399), (10 ** 399, 10 ** 399 + 1)]

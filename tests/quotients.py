@@ -96,6 +96,32 @@ class Quotient:
             return None
         return pair(0) if poles >= 0 else pair(rest.worth(1))
 
+    def orders(self):
+        """The least order the means of its numbers settle with, and their end; None for both if there is none."""
+        poles = self.count(AT_ONE)
+        if poles < -1 or any(many < 0 and square_of_size(factor) < 1 for factor, many in self.often.items()):
+            return None, None
+        turns = [-many for factor, many in self.often.items() if factor != AT_ONE and square_of_size(factor) == 1]
+        order = max([0] + turns)
+        return order, pair(self.times(Quotient(-1, {AT_ONE: 1})).worth(1) if poles == -1 else 0)
+
+    def settles_by(self, share):
+        """Whether its numbers settle by the share."""
+        if self.count(AT_ONE) < -1:
+            return False
+        poles = [(square_of_size(factor) * share ** 2, -many)
+                 for factor, many in self.often.items() if factor != AT_ONE and many < 0]
+        return all(square > 1 or (square == 1 and often == 1) for square, often in poles)
+
+    def plus(self, other):
+        """The numbers of TOP and UNDER of the sum of both."""
+        tops, unders = self.lists()
+        other_tops, other_unders = other.lists()
+        first, second = multiplied(tops, other_unders), multiplied(other_tops, unders)
+        many = max(len(first), len(second))
+        first, second = [numbers + [0] * (many - len(numbers)) for numbers in (first, second)]
+        return [low + high for low, high in zip(first, second)], multiplied(unders, other_unders)
+
 
 PULSE = Quotient(1, {})
 ONES = Quotient(-1, {AT_ONE: -1})
@@ -108,7 +134,8 @@ def fair(often):
 
 def random_often(source, factors=None, most=2, delay=2):
     """Some of the factors, each up to so often above or below, and z above alone."""
-    chosen = source.sample(factors or FACTORS, source.randint(0, 4))
+    factors = factors or FACTORS
+    chosen = source.sample(factors, min(source.randint(0, 4), len(factors)))
     often = {factor: source.choice([1, 1, -1, -1, most, -most]) for factor in chosen}
     often[Z] = source.randint(0, delay)
     return often

@@ -38,3 +38,41 @@ def check_tellers_refused(case, call, right, *further):
         if not further:
             check_given(case, InvalidTeller, value, call, other=value, teller=right)
             check_given(case, InvalidTeller, value, call, other=None, teller=value)
+
+
+def given(kind, values):
+    """For check_refused: each value is refused by an error of this kind that keeps it."""
+    return [(value, kind, "given", value) for value in values]
+
+
+def indexed(kind, pairs):
+    """For check_refused: each value is refused by an error of this kind that keeps the index beside the value."""
+    return [(value, kind, "index", index) for value, index in pairs]
+
+
+def check_refused(case, call, names, rights, wrongs):
+    """The first wrong argument is refused, whether those behind it are right or wrong, by position and by name."""
+    for at in range(len(names)):
+        for value, kind, attribute, kept in wrongs[at]:
+            further = wrongs[at + 1:]
+            for tail in (rights[at + 1:], [wrong[0][0] for wrong in further], [wrong[-1][0] for wrong in further]):
+                arguments = [*rights[:at], value, *tail]
+                with case.assertRaises(kind) as caught:
+                    call(*arguments)
+                check_kept(case, caught.exception, kind, attribute, kept)
+                with case.assertRaises(kind) as caught:
+                    call(**dict(reversed(list(zip(names, arguments)))))
+                check_kept(case, caught.exception, kind, attribute, kept)
+    call(*rights)
+    call(**dict(reversed(list(zip(names, rights)))))
+
+
+def check_kept(case, error, kind, attribute, kept):
+    """The error is of just this kind and keeps just this."""
+    case.assertIs(type(error), kind)
+    case.assertEqual(list(vars(error)), [attribute])
+    found = vars(error)[attribute]
+    if attribute == "index" and kept is not None:
+        case.assertEqual((type(found), found), (int, kept))
+    else:
+        case.assertIs(found, kept)

@@ -5,7 +5,7 @@ import inspect
 import pathlib
 import unittest
 
-from endtellers import discs, keeping, polynomials, serving, tellers
+from endtellers import discs, keeping, means, moments, polynomials, rows, serving, tellers
 
 PACKAGE = pathlib.Path(__file__).resolve().parent.parent / "endtellers"
 FILES = sorted(path for path in PACKAGE.rglob("*") if "__pycache__" not in path.parts)
@@ -66,6 +66,17 @@ class Form(unittest.TestCase):
                       ("keeps_share", ["teller", "fraction"]), ("straying", ["teller"])],
             serving: [(name, ["teller", "other"])
                       for name in ("serves_all", "serve_alike", "stray", "both", "either")],
+            rows: [("is_row", ["value"]), ("plain_row", ["row"]), ("numbers_of", ["row", "number"]),
+                   ("are_same_rows", ["row", "other"]), ("row_sum", ["row", "other"]),
+                   ("row_times", ["row", "fraction"]), ("led_row", ["teller", "row"]), ("sums_of", ["row"]),
+                   ("steps_of", ["row"]), ("end_of", ["row"]), ("settles_by", ["row", "fraction"]),
+                   ("served_end", ["teller", "row"])],
+            means: [("cesaro_means", ["row", "order", "number"]), ("cesaro_order", ["row"]), ("abel_end", ["row"]),
+                    ("euler_row", ["row", "fraction"]), ("euler_end", ["row", "fraction"])],
+            moments: [("error_within", ["weights", "top", "fraction"]), ("worst_place", ["weights", "top", "fraction"]),
+                      ("best_weights", ["number", "top"]), ("least_error", ["number", "top"]),
+                      ("alternating_within", ["weights", "fraction"]), ("alternating_place", ["weights", "fraction"]),
+                      ("best_alternating", ["number"]), ("least_alternating", ["number"])],
         }
         for module, functions in listed.items():
             for name, parameters in functions:

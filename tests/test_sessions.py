@@ -44,6 +44,48 @@ SESSIONS = [
 >>> both(means, sums)
 raises NotFair()
 '''),
+    ('rows', r'''
+>>> from endtellers.rows import are_same_rows, end_of, is_row, led_row, numbers_of, plain_row, row_sum, row_times, served_end, settles_by, steps_of, sums_of
+>>> turn = ((one,), (one, one))
+>>> ones, near, climb, twice = ((one,), (one, less)), ((two, (-3, 2)), (one, (-3, 2), half)), ((one,), (one, (-2, 1), one)), ((one,), (one, less, (1, 4)))
+>>> [is_row(near), is_row(((), (one,))), is_row(((one,), (nil, one))), numbers_of(near, 4), numbers_of(turn, 3), plain_row(((one, one), (one, nil, less)))]
+[True, True, False, ((2, 1), (3, 2), (5, 4), (9, 8)), ((1, 1), (-1, 1), (1, 1)), (((1, 1),), ((1, 1), (-1, 1)))]
+>>> [are_same_rows(ones, ((one, one), (one, nil, less))), are_same_rows(ones, turn), row_sum(ones, turn), row_times(turn, nil), led_row(means, turn), sums_of(turn), steps_of(ones)]
+[True, False, (((2, 1),), ((1, 1), (0, 1), (-1, 1))), ((), ((1, 1),)), (((1, 2),), ((1, 1),)), (((1, 1),), ((1, 1), (0, 1), (-1, 1))), (((1, 1),), ((1, 1),))]
+>>> [end_of(near), end_of(turn), end_of(climb), end_of(twice), served_end(means, turn), served_end(means, climb)]
+[(1, 1), None, None, (0, 1), (0, 1), None]
+>>> [settles_by(near, half), settles_by(near, (1, 3)), settles_by(twice, half), settles_by(twice, (2, 3)), settles_by(turn, half)]
+[True, False, False, True, False]
+>>> settles_by(near, one)
+raises InvalidFraction(given=(1, 1))
+'''),
+    ('means', r'''
+>>> from endtellers.means import abel_end, cesaro_means, cesaro_order, euler_end, euler_row
+>>> wild, dear = ((one,), (one, two)), ((one,), (one, two, one))
+>>> [cesaro_order(near), cesaro_order(turn), cesaro_order(dear), cesaro_order(climb), cesaro_order(wild)]
+[0, 1, 2, None, None]
+>>> [cesaro_means(turn, 0, 2), cesaro_means(turn, 1, 4), cesaro_means(turn, 2, 3)]
+[((1, 1), (-1, 1)), ((1, 1), (0, 1), (1, 3), (0, 1)), ((1, 1), (1, 3), (1, 3))]
+>>> [abel_end(turn), abel_end(sums_of(turn)), abel_end(climb), abel_end(near)]
+[(0, 1), (1, 2), None, (1, 1)]
+>>> [euler_row(turn, one), euler_row(wild, one), euler_row(near, nil) == near, euler_end(wild, one), euler_end(wild, half), euler_end(sums_of(turn), one)]
+[(((1, 1),), ((1, 1),)), (((1, 1),), ((1, 1), (1, 2))), True, (0, 1), None, (1, 2)]
+>>> euler_row(turn, less)
+raises InvalidFraction(given=(-1, 1))
+'''),
+    ('moments', r'''
+>>> from endtellers.moments import alternating_place, alternating_within, best_alternating, best_weights, error_within, least_alternating, least_error, worst_place
+>>> [best_weights(1, half), best_weights(2, half), best_weights(3, half), least_error(1, half), least_error(2, half), least_error(3, half)]
+[((1, 1),), ((-1, 3), (4, 3)), ((1, 17), (-16, 17), (32, 17)), (1, 1), (1, 3), (1, 17)]
+>>> [error_within((less, two), half, one), error_within((less, two), half, half), error_within(best_weights(3, half), half, (1, 17)), worst_place((less, two), half, one), worst_place((nil, one), half, (2, 5))[0] > 0]
+[True, False, True, None, True]
+>>> [best_alternating(1), best_alternating(2), least_alternating(1), least_alternating(2), alternating_within((one, (-1, 2)), (1, 8)), alternating_within((one, (-1, 2)), (1, 10))]
+[((2, 3),), ((16, 17), (-8, 17)), (1, 3), (1, 17), True, False]
+>>> [alternating_place((one, (-1, 2)), (1, 8)), alternating_place(best_alternating(2), (1, 17)), 0 < alternating_place((one, (-1, 2)), (1, 10))[0]]
+[None, None, True]
+>>> error_within((one, one), half, one)
+raises InvalidWeights(index=None)
+'''),
 ]
 
 
