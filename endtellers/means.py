@@ -6,7 +6,7 @@ from endtellers.discs import disc_counts, often_on
 from endtellers.polynomials import cleared
 from endtellers.quotients import whole_pair
 from endtellers.ratios import ONE, check_fraction_from_nought, check_whole, lowest
-from endtellers.rows import MOST_NUMBERS, check_row, end_at_one, end_of, numbers_of, row_of
+from endtellers.rows import check_row, end_at_one, end_of, numbers_of, row_of
 from endtellers.wholes import multiple, plus, times, trimmed
 
 MOST_ORDER = 8
@@ -26,7 +26,6 @@ def cesaro_means(row, order, number):
     """So many first means of this order of the row."""
     check_row(row)
     check_whole(order, 0, MOST_ORDER)
-    check_whole(number, 1, MOST_NUMBERS)
     sums, shared = cleared(numbers_of(row, number))
     for _ in range(order):
         sums = running_sums(sums)

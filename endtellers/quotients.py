@@ -2,7 +2,7 @@
 
 from endtellers.polynomials import cleared, divided
 from endtellers.ratios import NIL, ONE, lowest
-from endtellers.wholes import common_divisor, multiple, powers, quotient
+from endtellers.wholes import common_divisor, multiple, powers, quotient, times
 
 
 def whole_pair(pair):
@@ -17,6 +17,13 @@ def plain_pair(tops, unders):
     part = common_divisor(tops, unders)
     tops, unders = quotient(tops, part), quotient(unders, part)
     return divided(tops, unders[0]), divided(unders, unders[0])
+
+
+def whole_product(pair, other):
+    """Two polynomials of whole numbers with the quotient that is the product of those of both pairs."""
+    tops, unders = whole_pair(pair)
+    other_tops, other_unders = whole_pair(other)
+    return times(tops, other_tops), times(unders, other_unders)
 
 
 def reach(factors, numbers, at):

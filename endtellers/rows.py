@@ -3,7 +3,7 @@
 from endtellers.discs import disc_counts, is_free, often_on
 from endtellers.errors import InvalidRow
 from endtellers.polynomials import cleared, divided, is_polynomial, value_at
-from endtellers.quotients import first_numbers, plain_pair, whole_pair
+from endtellers.quotients import first_numbers, plain_pair, whole_pair, whole_product
 from endtellers.ratios import NIL, ONE, check_fraction, check_share, check_whole, lowest
 from endtellers.tellers import check_teller
 from endtellers.wholes import multiple, often_divided, plus, quotient, times, trimmed
@@ -82,9 +82,8 @@ def led_row(teller, row):
     """The plain row that the teller tells of the row."""
     check_teller(teller)
     check_row(row)
-    tops, unders = whole_pair(teller)
-    row_tops, row_unders = whole_pair(row)
-    return row_of(times(tops, row_tops), times(unders, row_unders))
+    tops, unders = whole_product(teller, row)
+    return row_of(tops, unders)
 
 
 def sums_of(row):

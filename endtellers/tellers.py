@@ -2,7 +2,7 @@
 
 from endtellers.errors import InvalidNumbers, InvalidTeller
 from endtellers.polynomials import is_polynomial, value_at
-from endtellers.quotients import first_numbers, plain_pair, told_numbers, whole_pair
+from endtellers.quotients import first_numbers, plain_pair, told_numbers, whole_pair, whole_product
 from endtellers.ratios import NIL, ONE, check_fraction, check_whole, wrong_index
 from endtellers.wholes import multiple, plus, times
 
@@ -55,9 +55,8 @@ def behind(teller, other):
     """The plain teller that tells what the one tells of what the other one tells."""
     check_teller(teller)
     check_teller(other)
-    tops, unders = whole_pair(teller)
-    other_tops, other_unders = whole_pair(other)
-    return plain_pair(times(tops, other_tops), times(unders, other_unders))
+    tops, unders = whole_product(teller, other)
+    return plain_pair(tops, unders)
 
 
 def mixed(teller, other, fraction):

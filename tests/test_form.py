@@ -1,11 +1,12 @@
 """The form of the package's files: some of the rules that a program can see."""
 
 import ast
+import builtins
 import inspect
 import pathlib
 import unittest
 
-from endtellers import discs, keeping, means, moments, polynomials, rows, serving, tellers
+from tests.listed import LISTED
 
 PACKAGE = pathlib.Path(__file__).resolve().parent.parent / "endtellers"
 FILES = sorted(path for path in PACKAGE.rglob("*") if "__pycache__" not in path.parts)
@@ -45,6 +46,30 @@ class Form(unittest.TestCase):
                     else:
                         self.assertTrue(node.module.startswith("endtellers."), node.module)
 
+    def test_names(self):
+        # What is imported is used, and nothing within a function has the name of an import or of a builtin.
+        for path in FILES:
+            tree = ast.parse(path.read_text(encoding="utf-8"))
+            names = [node for node in ast.walk(tree) if isinstance(node, ast.Name)]
+            imported = [alias.name for node in tree.body if isinstance(node, ast.ImportFrom) for alias in node.names]
+            self.assertLessEqual(set(imported), {node.id for node in names}, path)
+            local = {node.id for node in names if isinstance(node.ctx, ast.Store)}
+            local |= {node.arg for node in ast.walk(tree) if isinstance(node, ast.arg)}
+            self.assertEqual(local & set(imported), set(), path)
+            self.assertEqual({name for name in local if hasattr(builtins, name)}, set(), path)
+
+    def test_no_files_import_from_each_other(self):
+        told = {}
+        for path in FILES:
+            tree = ast.parse(path.read_text(encoding="utf-8"))
+            modules = [node.module.split(".") for node in tree.body if isinstance(node, ast.ImportFrom)]
+            told[path.stem] = {module[1] for module in modules if module[0] == "endtellers"}
+        while told:
+            free = [name for name in told if not told[name] & set(told)]
+            self.assertNotEqual(free, [])
+            for name in free:
+                del told[name]
+
     def test_no_barred_signs_and_no_floats(self):
         for path in FILES:
             for node in ast.walk(ast.parse(path.read_text(encoding="utf-8"))):
@@ -53,36 +78,11 @@ class Form(unittest.TestCase):
                     self.assertNotIsInstance(node.value, (float, complex))
 
     def test_interface(self):
-        listed = {
-            polynomials: [("is_polynomial", ["value"]), ("value_at", ["polynomial", "fraction"]),
-                          ("product", ["polynomial", "other"]), ("common_part", ["polynomial", "other"])],
-            discs: [("disc_counts", ["polynomial", "fraction"]), ("least_size", ["polynomial", "many"]),
-                    ("often_on", ["polynomial", "fraction"])],
-            tellers: [("is_teller", ["value"]), ("plain", ["teller"]), ("are_alike", ["teller", "other"]),
-                      ("is_fair", ["teller"]), ("behind", ["teller", "other"]),
-                      ("mixed", ["teller", "other", "fraction"]), ("told", ["teller", "numbers"]),
-                      ("weights_of", ["teller", "number"])],
-            keeping: [("keeps_settling", ["teller"]), ("keeps_ends", ["teller"]),
-                      ("keeps_share", ["teller", "fraction"]), ("straying", ["teller"])],
-            serving: [(name, ["teller", "other"])
-                      for name in ("serves_all", "serve_alike", "stray", "both", "either")],
-            rows: [("is_row", ["value"]), ("plain_row", ["row"]), ("numbers_of", ["row", "number"]),
-                   ("are_same_rows", ["row", "other"]), ("row_sum", ["row", "other"]),
-                   ("row_times", ["row", "fraction"]), ("led_row", ["teller", "row"]), ("sums_of", ["row"]),
-                   ("steps_of", ["row"]), ("end_of", ["row"]), ("settles_by", ["row", "fraction"]),
-                   ("served_end", ["teller", "row"])],
-            means: [("cesaro_means", ["row", "order", "number"]), ("cesaro_order", ["row"]), ("abel_end", ["row"]),
-                    ("euler_row", ["row", "fraction"]), ("euler_end", ["row", "fraction"])],
-            moments: [("error_within", ["weights", "top", "fraction"]), ("worst_place", ["weights", "top", "fraction"]),
-                      ("best_weights", ["number", "top"]), ("least_error", ["number", "top"]),
-                      ("alternating_within", ["weights", "fraction"]), ("alternating_place", ["weights", "fraction"]),
-                      ("best_alternating", ["number"]), ("least_alternating", ["number"])],
-        }
-        for module, functions in listed.items():
-            for name, parameters in functions:
+        for module, functions in LISTED.items():
+            for name, arguments in functions.items():
                 function = getattr(module, name)
                 self.assertEqual(function.__module__, module.__name__)
-                self.assertEqual(list(inspect.signature(function).parameters), parameters)
+                self.assertEqual(list(inspect.signature(function).parameters), list(arguments))
 
 
 if __name__ == "__main__":

@@ -18,7 +18,8 @@ nil, half, one, two, less = (0, 1), (1, 2), (1, 1), (2, 1), (-1, 1)
 GREAT = 10 ** 399
 WRONG_WEIGHTS = [(value, None if isinstance(value, tuple) and len(value) > 9 else index)
                  for value, index in wrong_tuples(9)]
-WRONG_SUMS = [((two,), None), ((nil,), None), ((one, one), None), ((half, (1, 3)), None), ((one, nil, (1, GREAT)), None),
+WRONG_SUMS = [((two,), None), ((nil,), None), ((one, one), None), ((half, (1, 3)), None),
+              ((one, nil, (1, GREAT)), None),
               (((1, 9),) * 8, None), ((nil,) * 9, None), ((less, one), None)]
 
 
@@ -108,6 +109,25 @@ class ErrorWithin(unittest.TestCase):
         # With u = t t it is - 1 + 8 u - 8 u u + 2 u u u, which turns at u = 2 / 3.
         self.check_greatest((less, nil, (8, 1), nil, (-8, 1), nil, two), (9, 10), Fraction(37, 27))
 
+    def test_a_little_beyond_beside_a_place_at_the_bound(self):
+        # E less the curve is k (t - a) (t - b): it is 0 at a and at b, and the curve is beyond between them.
+        top = Fraction(3, 4)
+        for width in (Fraction(1, 8), Fraction(1, 100), Fraction(1, 3 * 10 ** 30)):
+            for low, high in [(Fraction(0), width), (top - width, top), (top / 2, top / 2 + width),
+                              (top / 2 - width, top / 2), (top / 4, top / 4 + width), (Fraction(-1), width)]:
+                for factor in (Fraction(7), Fraction(1, 3)):
+                    bound = 1 + factor * (1 - low) * (1 - high)
+                    gap = [factor * number for number in multiplied([-low, 1], [-high, 1])]
+                    curve = [bound - gap[0], -gap[1], -gap[2]]
+                    self.check(tuple_of(curve), pair(top), bound, False)
+                    # With each place twice the curve keeps within.
+                    bound = 1 + factor * (1 - low) ** 2 * (1 - high) ** 2
+                    gap = [factor * number for number in multiplied([-low, 1], [-high, 1], [-low, 1], [-high, 1])]
+                    curve = [bound - gap[0]] + [-number for number in gap[1:]]
+                    self.assertIs(error_within(tuple_of(curve), pair(top), pair(max(bound, 20))), True)
+                    if bound >= max(abs(worth(curve, at)) for at in (Fraction(0), top)):
+                        self.check(tuple_of(curve), pair(top), bound, True)
+
     def test_touching_four_times(self):
         for number in range(2, 10):
             weights, bound = best_weights(number, (3, 4)), Fraction(*least_error(number, (3, 4)))
@@ -161,7 +181,8 @@ class ErrorWithin(unittest.TestCase):
         wrongs = [indexed(InvalidWeights, WRONG_WEIGHTS + WRONG_SUMS), given(InvalidFraction, WRONG_SHARES),
                   given(InvalidFraction, WRONG_FROM_NOUGHT)]
         for call in (error_within, worst_place):
-            for rights in ([(less, two), half, nil], [(one,), (1, GREAT), (GREAT, 1)], [(nil,) * 8 + (one,), half, half]):
+            for rights in ([(less, two), half, nil], [(one,), (1, GREAT), (GREAT, 1)],
+                           [(nil,) * 8 + (one,), half, half]):
                 check_refused(self, call, names, rights, wrongs)
 
     def test_a_wrong_weight_comes_ahead_of_the_sum(self):

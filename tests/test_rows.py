@@ -265,7 +265,8 @@ class Ends(unittest.TestCase):
         self.check((made_of([1, -2], [3]), made_of([1, -1], [1, -2])), (3, 1))
 
     def test_near_the_circle(self):
-        for zero, expected in [(Fraction(GREAT + 1, GREAT), nil), (Fraction(-GREAT - 1, GREAT), nil), (Fraction(-1), None),
+        for zero, expected in [(Fraction(GREAT + 1, GREAT), nil), (Fraction(-GREAT - 1, GREAT), nil),
+                               (Fraction(-1), None),
                                (Fraction(GREAT - 1, GREAT), None), (Fraction(1 - GREAT, GREAT), None)]:
             self.check((polynomial(1), polynomial(zero, -1)), expected)
             whole = None if expected is None else pair(1 / (zero - 1))
@@ -325,7 +326,8 @@ class SettlesBy(unittest.TestCase):
         for share in (Fraction(1, GREAT), Fraction(1, 2), Fraction(GREAT, GREAT + 1)):
             for row in (pulse, ones, NOUGHT, ((), (one, one)), ((one,) * 9, (one,)), ((one, one), (one, nil, less))):
                 self.check(row, share, True)
-            for row in (turn, climb, ((one,), (one, two)), ((one,), (one, nil, one)), ((one,), made_of([1, -1], [1, 1]))):
+            for row in (turn, climb, ((one,), (one, two)), ((one,), (one, nil, one)),
+                        ((one,), made_of([1, -1], [1, 1]))):
                 self.check(row, share, False)
 
     def test_at_the_rim(self):

@@ -1,8 +1,12 @@
 """The sessions that the interface shows: they are one, in order, and names stay told."""
 
+import doctest
+import pathlib
 import unittest
 
 from endtellers import errors
+
+README = pathlib.Path(__file__).resolve().parent.parent / "README.md"
 
 SESSIONS = [
     ('polynomials', r'''
@@ -86,6 +90,48 @@ raises InvalidFraction(given=(-1, 1))
 >>> error_within((one, one), half, one)
 raises InvalidWeights(index=None)
 '''),
+    ('weights', r'''
+>>> from endtellers.weights import blind_row, calm_weights, do_tell, fewest_numbers, hiding_row, calmest_size, lifting_row, mean_weights, richardson, size_of_weights, step_kinds, telling_weights
+>>> one, half, less, quarter = (1, 1), (1, 2), (-1, 1), (1, 4)
+>>> fading, slant, flat = ((one, half, quarter),), ((one, half),), ((one, one),)
+>>> [telling_weights(2, slant), telling_weights(2, flat), blind_row(2, flat), blind_row(2, slant), telling_weights(1, ()), fewest_numbers(3, fading), fewest_numbers(2, flat)]
+[((-1, 1), (2, 1)), None, ((1, 1),), None, ((1, 1),), 2, None]
+>>> [calmest_size(3, fading), calm_weights(3, fading), hiding_row(3, fading), calmest_size(2, slant), do_tell(3, fading, ((-1, 1), (2, 1), (0, 1)))]
+[(5, 3), ((-1, 3), (0, 1), (4, 3)), ((5, 3), ((-8, 3),)), (3, 1), True]
+>>> [mean_weights(2, ((one, less),)), lifting_row(2, ((one, less),)), mean_weights(2, slant), lifting_row(2, slant)[0][0] > 0, size_of_weights((half, (-3, 2), (2, 1)))]
+[((1, 2), (1, 2)), None, None, True, (4, 1)]
+>>> [richardson((one, half)), richardson((one, half, quarter)), step_kinds((one, half), 2)]
+[((-1, 1), (2, 1)), ((1, 3), (-2, 1), (8, 3)), (((1, 1), (1, 2)), ((1, 1), (1, 4)))]
+>>> calmest_size(2, flat)
+raises NotTelling()
+'''),
+    ('shanks', r'''
+>>> from endtellers.shanks import cell, ends_left, row_end, row_order, shanks_table, told_end, twin_ends
+>>> two, three, fall = (2, 1), (3, 1), ((2, 1), (3, 2), (5, 4))
+>>> [cell(fall, 1, 0), cell((one, two, three), 1, 0), cell((one, one, two), 1, 0), shanks_table(fall)]
+[(1, 1), None, (1, 1), (((2, 1), (3, 2), (5, 4)), ((1, 1),))]
+>>> [ends_left(fall, 1), told_end(fall, 1), ends_left(fall[:2], 1), ends_left((one, one), 1), told_end((one, two, (4, 1)), 1), ends_left((one, two, three), 1), ends_left((one, one, two), 1)]
+['one', (1, 1), 'many', 'one', (0, 1), 'none', 'none']
+>>> turn, steady, climb = ((one,), (one, one)), ((one,), (one, less)), ((one,), (one, (-2, 1), one))
+>>> [row_order(turn), row_end(turn), row_order(steady), row_end(steady), row_order(climb), row_end(climb), row_order(((one,), (one,)))]
+[1, (0, 1), 0, (1, 1), None, None, 1]
+>>> first, second = twin_ends(fall[:2], 1)
+>>> [row_end(first) == row_end(second), twin_ends(fall, 1), ends_left((one, two), 2)]
+[False, None, 'many']
+'''),
+    ('certificates', r'''
+>>> from endtellers.certificates import certify_counts, certify_ends, certify_keeping, certify_means, certify_row, certify_serving, certify_size, certify_telling
+>>> from endtellers.checker import accepts
+>>> sums, lag = ((one,), (one, less)), ((nil, one), (one,))
+>>> [certify_counts((one, nil, one), one), certify_keeping(fade)[0][0], certify_keeping(sums)[0][0], certify_serving(means, lag)[1], certify_serving(lag, means)[0][0]]
+[(('counts', ((1, 1), (0, 1), (1, 1)), (1, 1), (0, 2, 0)), ()), 'keeps ends', 'strays', (), 'lacks']
+>>> [certify_row(near)[0][2], certify_row(turn)[0], certify_means(turn)[0][2], certify_telling(2, flat)[0][0], certify_size(2, slant)[0][3], certify_ends((one, one), 1)[0][3]]
+[(1, 1), ('endless', (((1, 1),), ((1, 1), (1, 1)))), 1, 'blind', (3, 1), (1, 1)]
+>>> [accepts(("strays", sums), "ones"), accepts(("strays", sums), ()), accepts(("lacks", lag, means), (turn, nil)), accepts(("lacks", means, lag), (turn, nil)), accepts(("means", turn, 0), ())]
+[True, False, True, False, False]
+>>> [accepts(("blind", 2, flat), (one,)), accepts(("telling", 2, slant), (less, two)), accepts(("least size", 2, slant, three), ((less, two), (three, ((-4, 1),)))), accepts(("beyond", (less, two), half, half), nil), accepts(("one end", (one, one), 1, one), ())]
+[True, True, True, True, True]
+'''),
 ]
 
 
@@ -107,6 +153,13 @@ class Sessions(unittest.TestCase):
             for typed, shown in steps_of(session):
                 with self.subTest(module=module, typed=typed):
                     self.run_step(names, typed, shown)
+
+    def test_readme(self):
+        text = README.read_text(encoding="utf-8").replace("```", "")
+        examples = doctest.DocTestParser().get_doctest(text, {}, "README.md", None, 0)
+        found = doctest.DocTestRunner(verbose=False).run(examples)
+        self.assertEqual(found.failed, 0)
+        self.assertGreater(found.attempted, 20)
 
     def run_step(self, names, typed, shown):
         """What is typed shows what the session tells; an error is shown by its class and what it keeps."""
