@@ -59,8 +59,8 @@ def shanks_table(numbers):
     wholes, shared = cleared(numbers)
     out = []
     for order in range((len(numbers) + 1) // 2):
-        indexes = range(len(numbers) - 2 * order)
-        out.append(tuple([cell_of(wholes, shared, order, index) for index in indexes]))
+        many = len(numbers) - 2 * order
+        out.append(tuple([cell_of(wholes, shared, order, index) for index in range(many)]))
     return tuple(out)
 
 
